@@ -1,0 +1,1 @@
+"""Grants that lapse."""

@@ -1,0 +1,65 @@
+"""Halves of days off, taken off grants that lapse."""
+
+LAST_HALF = 799
+MOST_GRANTS = 10
+MOST_GRANTED = 100
+MOST_TAKEN = 60
+
+
+def covered(l, t):
+    """Answer [1, 0] if all of t is covered, else [0, the first half that is not], or [-22]."""
+    if not grants_are_as_told(l) or not halves_are_as_told(t):
+        return [-22]
+    grants = threes(l)
+    rest = [many for first, last, many in grants]
+    for half in t:
+        place = place_to_use(grants, rest, half)
+        if place is None:
+            return [0, half]
+        rest[place] = rest[place] - 1
+    return [1, 0]
+
+
+def grants_are_as_told(l):
+    """Tell whether l is a list of grants that may be handed in."""
+    if len(l) % 3 != 0 or len(l) > 3 * MOST_GRANTS:
+        return False
+    for first, last, many in threes(l):
+        # A first half above LAST_HALF needs no look of its own: it is above the last or the last is too high.
+        if first > last or last > LAST_HALF or many > MOST_GRANTED:
+            return False
+    return True
+
+
+def halves_are_as_told(t):
+    """Tell whether t is a list of taken halves that may be handed in."""
+    if len(t) > MOST_TAKEN:
+        return False
+    for place in range(len(t)):
+        if t[place] > LAST_HALF:
+            return False
+        if place > 0 and t[place] <= t[place - 1]:
+            return False
+    return True
+
+
+def threes(l):
+    """Answer the grants of l, each as (its first half, its last, how many)."""
+    return [(l[k], l[k + 1], l[k + 2]) for k in range(0, len(l), 3)]
+
+
+def place_to_use(grants, rest, half):
+    """Answer the place of the grant that half is taken off, or None if there is none."""
+    found = None
+    for place in range(len(grants)):
+        if rest[place] == 0 or not may_be_taken(grants[place], half):
+            continue
+        # Only an earlier end wins, so of grants that end alike the one told first stays.
+        if found is None or grants[place][1] < grants[found][1]:
+            found = place
+    return found
+
+
+def may_be_taken(grant, half):
+    """Tell whether grant may be taken at half, whatever is left of it."""
+    return grant[0] <= half and half <= grant[1]
