@@ -8,16 +8,28 @@ MOST_TAKEN = 60
 
 def covered(l, t):
     """Answer [1, 0] if all of t is covered, else [0, the first half that is not], or [-22]."""
-    if not grants_are_as_told(l) or not halves_are_as_told(t):
+    if not are_as_told(l, t):
+        return [-22]
+    places = places_used(threes(l), t)
+    if len(places) < len(t):
+        return [0, t[len(places)]]
+    return [1, 0]
+
+
+def left(l, t):
+    """Answer how many grants there are and then what is left of each, or [-22], or [-33] if not all is covered."""
+    if not are_as_told(l, t):
         return [-22]
     grants = threes(l)
-    rest = [many for first, last, many in grants]
-    for half in t:
-        place = place_to_use(grants, rest, half)
-        if place is None:
-            return [0, half]
-        rest[place] = rest[place] - 1
-    return [1, 0]
+    places = places_used(grants, t)
+    if len(places) < len(t):
+        return [-33]
+    return [len(grants)] + rest_behind(grants, places)
+
+
+def are_as_told(l, t):
+    """Tell whether l and t are grants and taken halves that may be handed in."""
+    return grants_are_as_told(l) and halves_are_as_told(t)
 
 
 def grants_are_as_told(l):
@@ -46,6 +58,24 @@ def halves_are_as_told(t):
 def threes(l):
     """Answer the grants of l, each as (its first half, its last, how many)."""
     return [(l[k], l[k + 1], l[k + 2]) for k in range(0, len(l), 3)]
+
+
+def places_used(grants, t):
+    """Answer, for each half of t ahead of the first that is not covered, the place of the grant it is taken off."""
+    rest = [many for first, last, many in grants]
+    places = []
+    for half in t:
+        place = place_to_use(grants, rest, half)
+        if place is None:
+            break
+        rest[place] = rest[place] - 1
+        places.append(place)
+    return places
+
+
+def rest_behind(grants, places):
+    """Answer what is left of each grant once a half was taken off at each of places."""
+    return [grants[place][2] - places.count(place) for place in range(len(grants))]
 
 
 def place_to_use(grants, rest, half):
