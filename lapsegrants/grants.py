@@ -1,6 +1,7 @@
 """Halves of days off, taken off grants that lapse."""
 
 LAST_HALF = 799
+HIGHEST_ASKED = 800
 MOST_GRANTS = 10
 MOST_GRANTED = 100
 MOST_TAKEN = 60
@@ -20,11 +21,21 @@ def left(l, t):
     """Answer how many grants there are and then what is left of each, or [-22], or [-33] if not all is covered."""
     if not are_as_told(l, t):
         return [-22]
-    grants = threes(l)
-    places = places_used(grants, t)
-    if len(places) < len(t):
+    rest = rest_behind(threes(l), t)
+    if rest is None:
         return [-33]
-    return [len(grants)] + rest_behind(grants, places)
+    return [len(rest)] + rest
+
+
+def lapsed(h, l, t):
+    """Answer what has lapsed before the half h, or [-22], or [-33] if not all of t is covered."""
+    if h > HIGHEST_ASKED or not are_as_told(l, t):
+        return [-22]
+    grants = threes(l)
+    rest = rest_behind(grants, t)
+    if rest is None:
+        return [-33]
+    return [sum([rest[place] for place in range(len(grants)) if grants[place][1] < h])]
 
 
 def are_as_told(l, t):
@@ -73,8 +84,11 @@ def places_used(grants, t):
     return places
 
 
-def rest_behind(grants, places):
-    """Answer what is left of each grant once a half was taken off at each of places."""
+def rest_behind(grants, t):
+    """Answer what is left of each grant behind all of t, or None if not all of t is covered."""
+    places = places_used(grants, t)
+    if len(places) < len(t):
+        return None
     return [grants[place][2] - places.count(place) for place in range(len(grants))]
 
 

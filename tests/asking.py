@@ -5,9 +5,23 @@ mixes them into one of its own.
 """
 
 import contextlib
+import copy
 import io
+import itertools
+
+from lapsegrants import grants
 
 HIGHEST = 4294967295
+
+# Each function of the program with what it may be handed, so that one can be called ahead of another.
+CALLS = [
+    (grants.covered, [0, 20, 2, 0, 10, 1], [1, 15]),
+    (grants.covered, [], [5]),
+    (grants.left, [0, 20, 2, 0, 10, 1], [1, 15]),
+    (grants.left, [], [5]),
+    (grants.lapsed, 15, [0, 20, 2, 0, 10, 1], [1, 15]),
+    (grants.lapsed, 15, [], [5]),
+]
 
 
 def forbidden(*args, **kwargs):
@@ -24,21 +38,24 @@ for method in ("__setitem__", "__delitem__", "__iadd__", "__imul__", "append", "
 
 
 class Asking:
-    """Asks `call`, a function of grants and of taken halves, and looks at the answer."""
+    """Asks `call`, a function of the program, and looks at the answer."""
 
-    def ask(self, l, t):
-        answer = self.call(Untouched(l), Untouched(t))
+    def ask(self, *handed):
+        answer = self.call(*[Untouched(one) if isinstance(one, list) else one for one in handed])
         self.assertIs(type(answer), list)
         for number in answer:
             self.assertIs(type(number), int)
         return answer
 
-    def refused(self, l, t):
-        self.assertEqual(self.ask(l, t), [-22], (l, t))
+    def refused(self, *handed):
+        self.assertEqual(self.ask(*handed), [-22], handed)
 
 
 class WrongInputs:
-    """The wrong grants and the wrong taken halves that every call refuses."""
+    """The wrong grants and the wrong taken halves that every call refuses.
+
+    Where a call is handed more than these two, its tests give a `refused` that adds it.
+    """
 
     def test_a_list_that_is_not_threes(self):
         for count in range(1, 37):
@@ -96,28 +113,85 @@ class WrongInputs:
         self.refused([], list(range(61)))
 
 
+class RefusedThoughNotCovered:
+    """-22 is told ahead of -33, so it is answered where both are due."""
+
+    def test_right_ones_that_would_not_be_covered(self):
+        self.not_covered([10, 20, 1], [5])
+        self.not_covered([], [5])
+        self.not_covered([0, 799, 0], [5])
+
+    def test_wrong_grants_that_would_not_cover(self):
+        for l in ([10, 20], [10, 20, 1, 6], [20, 10, 1], [10, 800, 1], [10, 20, 101],
+                  [10, 20, 1, 6, 5, 1], [10, 20, 1] * 11, [HIGHEST] * 3, [HIGHEST] * 36):
+            self.refused(l, [5])
+
+    def test_wrong_halves_that_would_not_be_covered(self):
+        for t in ([800], [HIGHEST], [5, 800], [5, HIGHEST], [6, 5], [5, 5], [1, 2, 2],
+                  list(range(61)), list(range(64)), [HIGHEST] * 64):
+            self.refused([], t)
+            self.refused([0, 799, 0], t)
+
+
 class EachCallByItself:
-    """Goes through `inputs`: grants, taken halves, and what `call` has to answer."""
+    """Goes through `inputs`: what is handed to `call`, and then what it has to answer."""
 
     def test_what_is_handed_in_is_the_same_behind_it(self):
-        for l, t, expected in self.inputs:
-            given_l, given_t = list(l), list(t)
-            self.assertEqual(self.call(given_l, given_t), expected)
-            self.assertEqual((given_l, given_t), (l, t))
+        for *handed, expected in self.inputs:
+            given = copy.deepcopy(handed)
+            self.assertEqual(self.call(*given), expected)
+            self.assertEqual(given, handed)
 
     def test_a_second_call_answers_the_same(self):
-        for l, t, expected in self.inputs * 2:
-            self.assertEqual(self.call(l, t), expected)
-            self.assertEqual(self.call(l, t), expected)
+        for *handed, expected in self.inputs * 2:
+            self.assertEqual(self.call(*handed), expected)
+            self.assertEqual(self.call(*handed), expected)
+
+    def test_behind_calls_of_all_functions_it_answers_the_same(self):
+        for *handed, expected in self.inputs:
+            for other, *others in CALLS:
+                before = other(*others)
+                self.assertEqual(self.call(*handed), expected)
+                self.assertEqual(other(*others), before)
+                self.assertEqual(self.call(*handed), expected)
 
     def test_an_answer_that_is_changed_changes_no_other(self):
-        for l, t, expected in self.inputs:
-            self.call(l, t).append(9)
-            self.assertEqual(self.call(l, t), expected)
+        for *handed, expected in self.inputs:
+            self.call(*handed).append(9)
+            self.assertEqual(self.call(*handed), expected)
 
     def test_it_prints_nothing(self):
         out, err = io.StringIO(), io.StringIO()
         with contextlib.redirect_stdout(out), contextlib.redirect_stderr(err):
-            for l, t, expected in self.inputs:
-                self.call(l, t)
+            for *handed, expected in self.inputs:
+                self.call(*handed)
         self.assertEqual((out.getvalue(), err.getvalue()), ("", ""))
+
+
+class SmallInputs:
+    """Hands small grants to `compare`, all of them, each with all of `takens`."""
+
+    times = [(first, last) for first in range(4) for last in range(first, 4)]
+    takens = [list(t) for count in range(5) for t in itertools.combinations(range(4), count)]
+
+    def compare_all(self, wholes):
+        for whole in wholes:
+            self.compare([number for grant in whole for number in grant])
+
+    def test_two_grants(self):
+        single = [time + (many,) for time in self.times for many in range(3)]
+        self.compare_all(itertools.product(single, repeat=2))
+
+    def test_three_grants_of_one_half(self):
+        single = [time + (1,) for time in self.times]
+        self.compare_all(itertools.product(single, repeat=3))
+
+
+def every_rest(l, t):
+    """Lay each half of t to a grant that may be taken then, in every way, and tell what each way leaves."""
+    rests = {tuple(l[2::3])}
+    for half in t:
+        rests = {rest[:k] + (rest[k] - 1,) + rest[k + 1:]
+                 for rest in rests for k in range(len(rest))
+                 if rest[k] > 0 and l[3 * k] <= half <= l[3 * k + 1]}
+    return rests

@@ -1,7 +1,6 @@
 """Tests of lapsegrants.grants.covered."""
 
 import ast
-import itertools
 import pathlib
 import unittest
 
@@ -184,45 +183,20 @@ class EachCallByItself(asking.EachCallByItself, Asked):
                     self.assertTrue(node.module.startswith("lapsegrants."))
 
 
-def can_be_laid(l, t):
-    """Try every way to lay each half of t to a grant that may be taken then."""
-    if not t:
-        return True
-    for k in range(0, len(l), 3):
-        if l[k] <= t[0] <= l[k + 1] and l[k + 2] > 0:
-            fewer = l[:k + 2] + [l[k + 2] - 1] + l[k + 3:]
-            if can_be_laid(fewer, t[1:]):
-                return True
-    return False
-
-
 def by_every_way(l, t):
     """What covered has to answer, told by every way there is to lay the halves."""
     for count in range(1, len(t) + 1):
-        if not can_be_laid(l, t[:count]):
+        if not asking.every_rest(l, t[:count]):
             return [0, t[count - 1]]
     return [1, 0]
 
 
-class EveryWay(Asked):
-    """All is covered just if there is any way; small inputs, all of them."""
+class EveryWay(asking.SmallInputs, Asked):
+    """All is covered just if there is any way."""
 
-    times = [(first, last) for first in range(4) for last in range(first, 4)]
-    takens = [list(t) for count in range(5) for t in itertools.combinations(range(4), count)]
-
-    def compare(self, wholes):
-        for whole in wholes:
-            l = [number for grant in whole for number in grant]
-            for t in self.takens:
-                self.assertEqual(covered(l, t), by_every_way(l, t), (l, t))
-
-    def test_two_grants(self):
-        single = [time + (many,) for time in self.times for many in range(3)]
-        self.compare(itertools.product(single, repeat=2))
-
-    def test_three_grants_of_one_half(self):
-        single = [time + (1,) for time in self.times]
-        self.compare(itertools.product(single, repeat=3))
+    def compare(self, l):
+        for t in self.takens:
+            self.assertEqual(covered(l, t), by_every_way(l, t), (l, t))
 
 
 if __name__ == "__main__":

@@ -1,10 +1,8 @@
 """Tests of lapsegrants.grants.left."""
 
-import itertools
 import unittest
 
 import asking
-from asking import HIGHEST
 from lapsegrants.grants import covered, left
 
 
@@ -171,20 +169,8 @@ class WrongInputs(asking.WrongInputs, Asked):
     pass
 
 
-class RefusedThoughNotCovered(Asked):
-    """-22 is told ahead of -33, so it is answered where both are due."""
-
-    def test_wrong_grants_that_would_not_cover(self):
-        self.not_covered([10, 20, 1], [5])
-        for l in ([10, 20], [10, 20, 1, 6], [20, 10, 1], [10, 800, 1], [10, 20, 101],
-                  [10, 20, 1, 6, 5, 1], [10, 20, 1] * 11, [HIGHEST] * 3, [HIGHEST] * 36):
-            self.refused(l, [5])
-
-    def test_wrong_halves_that_would_not_be_covered(self):
-        for t in ([800], [HIGHEST], [5, 800], [5, HIGHEST], [6, 5], [5, 5], [1, 2, 2],
-                  list(range(61)), list(range(64)), [HIGHEST] * 64):
-            self.refused([], t)
-            self.refused([0, 799, 0], t)
+class RefusedThoughNotCovered(asking.RefusedThoughNotCovered, Asked):
+    pass
 
 
 class EachCallByItself(asking.EachCallByItself, Asked):
@@ -194,13 +180,6 @@ class EachCallByItself(asking.EachCallByItself, Asked):
         ([0, 20, 2, 5, 4, 1], [1], [-22]),
         ([], [], [0]),
     ]
-
-    def test_behind_a_call_of_covered_it_answers_the_same(self):
-        for l, t, expected in self.inputs:
-            before = covered(l, t)
-            self.assertEqual(left(l, t), expected)
-            self.assertEqual(covered(l, t), before)
-            self.assertEqual(left(l, t), expected)
 
     def test_one_list_may_be_both(self):
         both = asking.Untouched([1, 2, 3])
@@ -220,29 +199,14 @@ def by_the_words(l, t):
     return [count] + [len([one for one in stock if one[1] == place]) for place in range(count)]
 
 
-class SmallInputs(Asked):
-    """Small inputs, all of them."""
-
-    times = [(first, last) for first in range(4) for last in range(first, 4)]
-    takens = [list(t) for count in range(5) for t in itertools.combinations(range(4), count)]
-
-    def compare(self, wholes):
-        for whole in wholes:
-            l = [number for grant in whole for number in grant]
-            for t in self.takens:
-                answer = left(l, t)
-                self.assertEqual(answer, by_the_words(l, t), (l, t))
-                self.assertEqual(answer == [-33], covered(l, t)[0] == 0, (l, t))
-                if answer != [-33]:
-                    self.assertEqual(sum(answer[1:]) + len(t), sum(l[2::3]), (l, t))
-
-    def test_two_grants(self):
-        single = [time + (many,) for time in self.times for many in range(3)]
-        self.compare(itertools.product(single, repeat=2))
-
-    def test_three_grants_of_one_half(self):
-        single = [time + (1,) for time in self.times]
-        self.compare(itertools.product(single, repeat=3))
+class SmallInputs(asking.SmallInputs, Asked):
+    def compare(self, l):
+        for t in self.takens:
+            answer = left(l, t)
+            self.assertEqual(answer, by_the_words(l, t), (l, t))
+            self.assertEqual(answer == [-33], covered(l, t)[0] == 0, (l, t))
+            if answer != [-33]:
+                self.assertEqual(sum(answer[1:]) + len(t), sum(l[2::3]), (l, t))
 
 
 class LeftAndTaken(Asked):
