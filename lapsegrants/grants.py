@@ -38,6 +38,16 @@ def lapsed(h, l, t):
     return [sum([rest[place] for place in range(len(grants)) if grants[place][1] < h])]
 
 
+def more(l, t, c):
+    """Answer how many of c's first halves could be taken too, or [-22], or [-33] if not all of t is covered."""
+    if not are_as_told(l, t) or not halves_are_as_told(c) or has_one_of(c, t):
+        return [-22]
+    grants = threes(l)
+    if not all_is_covered(grants, t):
+        return [-33]
+    return [most_of_first(grants, t, c)]
+
+
 def are_as_told(l, t):
     """Tell whether l and t are grants and taken halves that may be handed in."""
     return grants_are_as_told(l) and halves_are_as_told(t)
@@ -66,6 +76,14 @@ def halves_are_as_told(t):
     return True
 
 
+def has_one_of(c, t):
+    """Tell whether a half of c is in t, too."""
+    for half in c:
+        if half in t:
+            return True
+    return False
+
+
 def threes(l):
     """Answer the grants of l, each as (its first half, its last, how many)."""
     return [(l[k], l[k + 1], l[k + 2]) for k in range(0, len(l), 3)]
@@ -82,6 +100,20 @@ def places_used(grants, t):
         rest[place] = rest[place] - 1
         places.append(place)
     return places
+
+
+def all_is_covered(grants, halves):
+    """Tell whether each of halves is covered."""
+    return len(places_used(grants, halves)) == len(halves)
+
+
+def most_of_first(grants, t, c):
+    """Answer how many of c's first halves, at most, could be taken along with t and all be covered."""
+    count = 0
+    # If fewer are taken, they are covered as well: so none behind the first that does not fit needs a look.
+    while count < len(c) and all_is_covered(grants, sorted(t + c[:count + 1])):
+        count = count + 1
+    return count
 
 
 def rest_behind(grants, t):

@@ -21,6 +21,8 @@ CALLS = [
     (grants.left, [], [5]),
     (grants.lapsed, 15, [0, 20, 2, 0, 10, 1], [1, 15]),
     (grants.lapsed, 15, [], [5]),
+    (grants.more, [0, 20, 2, 0, 10, 1], [1, 15], [2, 3]),
+    (grants.more, [], [5], []),
 ]
 
 
@@ -54,7 +56,8 @@ class Asking:
 class WrongInputs:
     """The wrong grants and the wrong taken halves that every call refuses.
 
-    Where a call is handed more than these two, its tests give a `refused` that adds it.
+    Where a call is handed more than these two, its tests give a `refused` that adds it,
+    and a `not_covered` for the classes below.
     """
 
     def test_a_list_that_is_not_threes(self):
@@ -111,6 +114,32 @@ class WrongInputs:
         self.refused([10, 20, 1, 6, 5, 1], [5])
         self.refused([10, 20, 1, 6], [5])
         self.refused([], list(range(61)))
+
+
+class NotCovered:
+    """What is taken and not covered, which every call but covered answers with -33."""
+
+    def test_no_grants_and_one_half_taken(self):
+        self.not_covered([], [0])
+        self.not_covered([], [7])
+        self.not_covered([], [799])
+
+    def test_the_first_one_is_not(self):
+        self.not_covered([10, 20, 5], [9, 10])
+        self.not_covered([1, 799, 5], [0])
+
+    def test_one_between_others_is_not(self):
+        self.not_covered([0, 9, 5, 20, 29, 5], [5, 15, 25])
+
+    def test_the_last_one_is_not(self):
+        self.not_covered([0, 799, 2], [1, 2, 3])
+        self.not_covered([0, 20, 2, 0, 10, 1], [1, 2, 15, 16])
+        self.not_covered([10, 20, 5], [20, 21])
+        self.not_covered([0, 799, 59], list(range(60)))
+
+    def test_grants_of_0(self):
+        self.not_covered([0, 799, 0], [5])
+        self.not_covered([0, 799, 0] * 10, [5])
 
 
 class RefusedThoughNotCovered:
@@ -195,3 +224,8 @@ def every_rest(l, t):
                  for rest in rests for k in range(len(rest))
                  if rest[k] > 0 and l[3 * k] <= half <= l[3 * k + 1]}
     return rests
+
+
+def lapsed_of(h, l, rest):
+    """How many of rest are of grants whose last half is less than h."""
+    return sum(rest[k] for k in range(len(rest)) if l[3 * k + 1] < h)

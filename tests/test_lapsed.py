@@ -171,24 +171,8 @@ class TooHighH(Asked):
             self.refused(h, [0, 799, 0], [5])
 
 
-class NotCovered(AskedAtSeveral):
-    def test_no_grants_and_one_half_taken(self):
-        self.not_covered([], [0])
-        self.not_covered([], [7])
-        self.not_covered([], [799])
-
-    def test_the_first_one_is_not(self):
-        self.not_covered([10, 20, 5], [9, 10])
-        self.not_covered([1, 799, 5], [0])
-
-    def test_one_between_others_is_not(self):
-        self.not_covered([0, 9, 5, 20, 29, 5], [5, 15, 25])
-
-    def test_the_last_one_is_not(self):
-        self.not_covered([0, 799, 2], [1, 2, 3])
-        self.not_covered([0, 20, 2, 0, 10, 1], [1, 2, 15, 16])
-        self.not_covered([10, 20, 5], [20, 21])
-        self.not_covered([0, 799, 59], list(range(60)))
+class NotCovered(asking.NotCovered, AskedAtSeveral):
+    pass
 
 
 class WrongInputs(asking.WrongInputs, AskedAtSeveral):
@@ -215,11 +199,6 @@ class EachCallByItself(asking.EachCallByItself, Asked):
         self.assertEqual(both, [1, 2, 3])
 
 
-def lapsed_of(h, l, rest):
-    """How many of rest are of grants whose last half is less than h."""
-    return sum(rest[k] for k in range(len(rest)) if l[3 * k + 1] < h)
-
-
 class EveryWay(asking.SmallInputs, Asked):
     """However the halves are laid, no less has lapsed before any half."""
 
@@ -227,7 +206,7 @@ class EveryWay(asking.SmallInputs, Asked):
         for t in self.takens:
             rests = asking.every_rest(l, t)
             for h in range(6):
-                expected = min([lapsed_of(h, l, rest) for rest in rests], default=-33)
+                expected = min([asking.lapsed_of(h, l, rest) for rest in rests], default=-33)
                 self.assertEqual(lapsed(h, l, t), [expected], (h, l, t))
 
 

@@ -142,27 +142,8 @@ class Edges(Asked):
         self.refused([0, 799, 1], [800])
 
 
-class NotCovered(Asked):
-    def test_no_grants_and_one_half_taken(self):
-        self.not_covered([], [0])
-        self.not_covered([], [7])
-
-    def test_the_first_one_is_not(self):
-        self.not_covered([10, 20, 5], [9, 10])
-        self.not_covered([1, 799, 5], [0])
-
-    def test_one_between_others_is_not(self):
-        self.not_covered([0, 9, 5, 20, 29, 5], [5, 15, 25])
-
-    def test_the_last_one_is_not(self):
-        self.not_covered([0, 799, 2], [1, 2, 3])
-        self.not_covered([0, 20, 2, 0, 10, 1], [1, 2, 15, 16])
-        self.not_covered([10, 20, 5], [20, 21])
-        self.not_covered([0, 799, 59], list(range(60)))
-
-    def test_grants_of_0(self):
-        self.not_covered([0, 799, 0], [5])
-        self.not_covered([0, 799, 0] * 10, [5])
+class NotCovered(asking.NotCovered, Asked):
+    pass
 
 
 class WrongInputs(asking.WrongInputs, Asked):
